@@ -1,0 +1,1 @@
+"""Names put into a few registers (after Chaitin and Briggs)."""
