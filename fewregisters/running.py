@@ -28,7 +28,11 @@ def run(fit, numbers, steps, most):
 
 
 def orders_of(fit):
-    return [order_of(step, fit) for step in fit.program.steps]
+    """The orders of a program, with the end as the last one."""
+    orders = [order_of(step, fit) for step in fit.program.steps]
+    # With an order to stand for it, a run need not look for the end at each step.
+    orders.append(Order("end", None, None, None, None))
+    return orders
 
 
 def order_of(step, fit):
@@ -53,13 +57,9 @@ def order_of(step, fit):
 
 def run_orders(orders, cells, numbers, steps, most):
     put_out = []
-    fetched = 0
-    done = 0
+    taken = 0
     place = 0
-    end = len(orders)
-    while place < end:
-        if done == steps:
-            return outcome(NOT_YET, put_out, 0, done)
+    for done in range(steps):
         order = orders[place]
         kind = order.kind
         place += 1
@@ -75,16 +75,18 @@ def run_orders(orders, cells, numbers, steps, most):
         elif kind == "number":
             cells[order.into] = order.extra
         elif kind == "in":
-            cells[order.into] = numbers[fetched] if fetched < len(numbers) else 0
-            fetched += 1
+            cells[order.into] = numbers[taken] if taken < len(numbers) else 0
+            taken += 1
         elif kind == "out":
             if len(put_out) == most:
                 return outcome(TOO_MUCH_PUT_OUT, put_out, 0, done)
             put_out.append(cells[order.first])
-        else:
+        elif kind == "ret":
             return outcome(ENDED, put_out, cells[order.first], done + 1)
-        done += 1
-    return outcome(ENDED, put_out, 0, done)
+        else:
+            return outcome(ENDED, put_out, 0, done)
+    how = ENDED if orders[place].kind == "end" else NOT_YET
+    return outcome(how, put_out, 0, steps)
 
 
 def outcome(how, put_out, ended_with, done):

@@ -8,6 +8,7 @@ OPERATORS = "+ - * / % & | ^ << >> < ==".split()
 NO_NAMES = ["in", "out", "goto", "if", "ret"]
 WRONG_NAMES = NO_NAMES + ["ninesigns", "abcdefgh9", "1", "1a", "9", "A", "aB", "a_b", "a-b", "a.b", "x:",
                           ":", "=", "+", "-", "a\tb", "a\r", "\x00", "\xe4", "?", "@", "a?", "a@b", "`", "{"]
+LABELS = "\n" + lines(*[f"{name} :" for name in "mnvwxyz"])
 
 
 def many_steps(count):
@@ -24,6 +25,8 @@ class FormTest(unittest.TestCase):
 
     def assert_not_so(self, text, number=1):
         self.assertEqual(read_answer(text), [number], repr(text))
+        # Behind it stand labels, so that it isn't for one that isn't there.
+        self.assertEqual(read_answer(text + LABELS), [number], repr(text))
 
     def test_every_form_of_a_line(self):
         for row in ["l :", "x = y", "x = 5", "x = -5", "x = in", "out x", "ret x", "l :\ngoto l",
@@ -42,7 +45,7 @@ class FormTest(unittest.TestCase):
         for row in ["l:", "x=y", "x= y", "x =y", "x=5", "x = y+z", "x = y + z;", "x = y +z", "outx", "retx", "x = y<<z",
                     "x = y < < z", "x = y = = z", "x = - 5"]:
             self.assert_not_so(row)
-        self.assert_not_so("l :\ngotol", 2)
+        self.assert_not_so("k :\ngotol", 2)
 
     def test_other_bytes_are_no_blanks_and_no_newlines(self):
         for byte in [0, 9, 11, 12, 13, 28, 29, 30, 31, 127, 133, 160, 255]:
@@ -66,6 +69,12 @@ class FormTest(unittest.TestCase):
         self.assert_not_so("out x\nwrong\n", 2)
         self.assert_so("out x\n   ")
 
+    def test_as_many_bytes_as_may_be_and_one_more(self):
+        text = "x = 5\nret x"
+        self.assertEqual(ask(read(text.ljust(65536)), run(0)), [[0], [0, 0, 5, 2]])
+        self.assertEqual(ask(read(text.ljust(65537)), run(0)), [[-1], [-3]])
+        self.assertEqual(ask(read("ret y"), read("wrong".ljust(65537)), run(0)), [[0], [-1], [0, 0, 0, 1]])
+
     def test_a_text_without_bytes(self):
         found = ask(read(""), live(0), write(3), run(0), run(3))
         self.assertEqual(found, [[0], [-1], [0], [0, 0, 0, 0], [0, 0, 0, 0]])
@@ -73,14 +82,14 @@ class FormTest(unittest.TestCase):
     def test_lines_with_words_too_many_or_too_few(self):
         for row in ["x", "x =", "= y", "x = y z", "x = y +", "x = + z", "x = y + z +", "x = y + z + w", "x = in in",
                     "x = 5 5", "out", "out x y", "ret", "ret x y", "goto", "goto l m", "if", "if x", "if x goto",
-                    "if x goto l m", "if goto l", "if x l", ":", "l : :", "l m :", ": l", "l", "ret ret x", "l : out x",
-                    "x = y + z w v", "x y = z", "x : y + z"]:
+                    "if x goto y z", "if goto y", "if x y", ":", "l : :", "l m :", ": l", "l", "ret ret x", "l : out x",
+                    "x = y + z w v", "x y = z", "x : y + z", "goto x y z", "if if goto x", "x x goto y", "if x y z"]:
             self.assert_not_so(row)
 
     def test_words_in_wrong_places(self):
         for row in ["x = y + 5", "x = 5 + y", "x = in + y", "x = y + in", "x = 5 + 5", "out 5", "ret 5", "ret in", "5 = x",
-                    "x == y", "if x ret l", "goto 5", "if 5 goto l", "in x", "= = =", "x = =", "Out x", "RET x", "x = IN",
-                    "x = +", "out =", "x + y", "fi x goto l", "x = :"]:
+                    "x == y", "if x ret y", "goto 5", "if 5 goto x", "if x goto 5", "in x", "= = =", "x = =", "Out x", "RET x", "x = IN",
+                    "x = +", "out =", "x + y", "fi x goto y", "x = :"]:
             self.assert_not_so(row)
 
     def test_operators_that_are_none(self):

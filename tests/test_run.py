@@ -34,6 +34,10 @@ class RefusalTest(unittest.TestCase):
         found = ask(read("ret x"), run(0, 10000000), run(0, 10000001), run(3, 4294967295))
         self.assertEqual(found[1:], [[0, 0, 0, 1], [-1], [-1]])
 
+    def test_as_many_numbers_as_may_be_and_one_more(self):
+        found = ask(read("x = in\nret x"), run(0, given=[7] * 65536), run(3, given=[7] * 65537), run(0))
+        self.assertEqual(found[1:], [[0, 0, 7, 2], [-1], [0, 0, 0, 2]])
+
     def test_many_numbers_are_handed_over(self):
         given = list(range(15900))
         text = lines("l :", "x = in", "if x goto l", "out x", "x = in", "ret x")
@@ -177,7 +181,7 @@ class OperatorTest(unittest.TestCase):
 
     def test_divided(self):
         self.assert_operated("/", (7, 2, 3), (-7, 2, -3), (7, -2, -3), (-7, -2, 3), (1, 2, 0), (-1, 2, 0), (1, -2, 0),
-                             (LEAST, -1, LEAST), (LEAST, 1, LEAST), (MOST, -1, -MOST), (LEAST, 2, -4611686018427387904),
+                             (LEAST, -1, LEAST), (LEAST, 1, LEAST), (MOST, -1, -MOST), (-1, 1, -1), (-1, -1, 1), (0, -5, 0), (LEAST, 2, -4611686018427387904),
                              (LEAST, 3, -3074457345618258602), (MOST, LEAST, 0), (LEAST, LEAST, 1), (LEAST, MOST, -1),
                              (6, 3, 2), (-6, 3, -2))
 
